@@ -6,53 +6,38 @@ import (
 	"testing"
 
 	"flong/api"
+	"flong/checks"
 	"flong/metal"
 )
 
-// answer is what a call returned: its error, and whether all else is zero.
-type answer struct {
-	name string
-	e    api.Errno
-	zero bool
-}
-
 // listed returns the answers of the calls that have a list.
-func listed(s api.MetalShop, add []int) []answer {
+func listed(s api.MetalShop, add []int) []checks.Answer {
 	p, e1 := metal.After(s, add)
 	k, e2 := metal.Safe(s, add)
 	f, e3 := metal.Fails(s, add)
 	l, e4 := metal.Lead(s, add)
-	return []answer{
-		{"After", e1, p == api.MetalPot{}}, {"Safe", e2, k == 0}, {"Fails", e3, len(f) == 0}, {"Lead", e4, l == api.Span{}},
+	return []checks.Answer{
+		checks.Said("After", e1, p == api.MetalPot{}), checks.Said("Safe", e2, k == 0), checks.Said("Fails", e3, len(f) == 0), checks.Said("Lead", e4, l == api.Span{}),
 	}
 }
 
 // unlisted returns the answers of the calls that have none, but for Check.
-func unlisted(s api.MetalShop) []answer {
+func unlisted(s api.MetalShop) []checks.Answer {
 	short, e1 := metal.Short(s)
 	cheap, e2 := metal.Cheap(s)
 	mend, e3 := metal.Mend(s)
 	tin, e4 := metal.Tin(s)
 	known, e5 := metal.Known(s)
 	worth, e6 := metal.Worth(s)
-	return []answer{
-		{"Short", e1, len(short) == 0}, {"Cheap", e2, cheap == 0}, {"Mend", e3, len(mend) == 0},
-		{"Tin", e4, tin == 0}, {"Known", e5, known == api.Span{}}, {"Worth", e6, worth == 0},
+	return []checks.Answer{
+		checks.Said("Short", e1, len(short) == 0), checks.Said("Cheap", e2, cheap == 0), checks.Said("Mend", e3, len(mend) == 0),
+		checks.Said("Tin", e4, tin == 0), checks.Said("Known", e5, known == api.Span{}), checks.Said("Worth", e6, worth == 0),
 	}
 }
 
-func mixed(s api.MetalShop, other api.MetalPot) answer {
+func mixed(s api.MetalShop, other api.MetalPot) checks.Answer {
 	p, e := metal.Mix(s, other)
-	return answer{"Mix", e, p == api.MetalPot{}}
-}
-
-func expect(t *testing.T, what any, want api.Errno, answers ...answer) {
-	t.Helper()
-	for _, a := range answers {
-		if a.e != want || !a.zero {
-			t.Errorf("%v: %s: error %d, want %d with nothing else (%v)", what, a.name, a.e, want, a.zero)
-		}
-	}
+	return checks.Said("Mix", e, p == api.MetalPot{})
 }
 
 // P1.1
@@ -111,12 +96,12 @@ func invalid() []api.MetalShop {
 // P1 and P1.1, and ErrMetal ahead of all other errors
 func TestCheckInvalid(t *testing.T) {
 	for _, s := range invalid() {
-		expect(t, s, api.ErrMetal, answer{"Check", metal.Check(s), true})
+		checks.Expect(t, s, api.ErrMetal, checks.Said("Check", metal.Check(s), true))
 		for _, add := range [][]int{list(0, 0, 0), nil, list(-1), list(math.MaxInt, math.MaxInt, math.MinInt)} {
-			expect(t, s, api.ErrMetal, listed(s, add)...)
+			checks.Expect(t, s, api.ErrMetal, listed(s, add)...)
 		}
-		expect(t, s, api.ErrMetal, unlisted(s)...)
-		expect(t, s, api.ErrMetal, mixed(s, pot(0, 0, 0, 0, 0)), mixed(s, pot(-1, 0, 0, 0, 0)))
+		checks.Expect(t, s, api.ErrMetal, unlisted(s)...)
+		checks.Expect(t, s, api.ErrMetal, mixed(s, pot(0, 0, 0, 0, 0)), mixed(s, pot(-1, 0, 0, 0, 0)))
 	}
 }
 
@@ -127,17 +112,13 @@ func TestNotAnAddition(t *testing.T) {
 		nil, list(0), list(0, 0), list(0, 0, 0, 0), list(-1, 0, 0), list(0, -1, 0), list(0, 0, -1), list(4, 0, 0), list(0, 3, 0), list(0, 0, 3),
 		list(2, 2, 2), list(3, 2, 2), list(4, -1, 0), list(most, 0, 0), list(0, most, most), list(0, 0, least), list(most, least, 1),
 	} {
-		expect(t, add, api.ErrArg, listed(shopM(), add)...)
+		checks.Expect(t, add, api.ErrArg, listed(shopM(), add)...)
 	}
 	// With room for 100 pounds more 3 1 2 just fits (30 + 20 + 50); with a pound less it does not.
-	for _, a := range listed(shopM(), list(3, 1, 2)) {
-		if a.e == api.ErrArg {
-			t.Errorf("%s of what just fits: %d", a.name, a.e)
-		}
-	}
-	expect(t, "no room", api.ErrArg, listed(withM(func(s *api.MetalShop) { s.Room = 299 }), list(3, 1, 2))...)
-	expect(t, "none of the kind", api.ErrArg, listed(shopL(), list(1, 0, 0))...)
-	expect(t, "no kinds", api.ErrArg, listed(api.MetalShop{}, list(0))...)
+	checks.ExpectNot(t, "what just fits", api.ErrArg, listed(shopM(), list(3, 1, 2))...)
+	checks.Expect(t, "no room", api.ErrArg, listed(withM(func(s *api.MetalShop) { s.Room = 299 }), list(3, 1, 2))...)
+	checks.Expect(t, "none of the kind", api.ErrArg, listed(shopL(), list(1, 0, 0))...)
+	checks.Expect(t, "no kinds", api.ErrArg, listed(api.MetalShop{}, list(0))...)
 }
 
 // P1.2
@@ -176,9 +157,9 @@ func TestMix(t *testing.T) {
 		pot(-1, 0, 0, 0, 0), pot(101, 0, 0, 0, 0), pot(10, 3, 2, 0, 0), pot(10, 0, 0, 3, 2), pot(10, 0, 6, 0, 5), pot(10, -1, 5, 0, 0), pot(10, 0, 0, -1, 5), pot(10, 0, 11, 0, 0), pot(10, 0, 0, 0, 11),
 		pot(most, 0, 0, 0, 0), pot(least, 0, 0, 0, 0), pot(10, 0, most, 0, most), pot(10, least, 0, least, 0), pot(most, 0, most, 0, most),
 	} {
-		expect(t, p, api.ErrArg, mixed(shopM(), p))
+		checks.Expect(t, p, api.ErrArg, mixed(shopM(), p))
 	}
-	expect(t, "too many pounds", api.ErrArg, mixed(wide(pot(0, 0, 0, 0, 0), 999), pot(401, 0, 0, 0, 0)))
+	checks.Expect(t, "too many pounds", api.ErrArg, mixed(wide(pot(0, 0, 0, 0, 0), 999), pot(401, 0, 0, 0, 0)))
 }
 
 // P1.4 and P1.5
@@ -288,7 +269,7 @@ func TestMended(t *testing.T) {
 	}
 	noRoom := changed(lean(pig(10, 3, 0, 7, 1)), func(s *api.MetalShop) { s.Room = 19 })
 	for _, s := range []api.MetalShop{shopL(), noRoom, lean(pig(10, 3, 0, 7, 0)), lean()} {
-		expect(t, s, api.ErrNone, unlisted(s)[1:]...)
+		checks.Expect(t, s, api.ErrNone, unlisted(s)[1:]...)
 	}
 }
 
@@ -313,7 +294,7 @@ func TestKnown(t *testing.T) {
 	}
 	// In the one truth nothing needs to be done, in the other nothing can be.
 	half := api.MetalShop{Pot: pot(10, 0, 1, 0, 0), Room: 20, TinPart: span(100, 100)}
-	expect(t, half, api.ErrNone, unlisted(half)[4:]...)
+	checks.Expect(t, half, api.ErrNone, unlisted(half)[4:]...)
 }
 
 // P1.4 to P1.12: TestAllCalls holds each call against what the chapter says word by word.
@@ -359,7 +340,7 @@ func checkMended(t *testing.T, i int, s api.MetalShop) {
 		}
 	} else {
 		answers := unlisted(s)
-		expect(t, s, api.ErrNone, answers[1], answers[2], answers[3], answers[5])
+		checks.Expect(t, s, api.ErrNone, answers[1], answers[2], answers[3], answers[5])
 	}
 	if k, e := metal.Known(s); k != known || some != (e == api.OK) || some == (e == api.ErrNone) {
 		t.Errorf("%d: Known(%v) = %v, %d, want %v, %v", i, s, k, e, known, some)

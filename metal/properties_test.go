@@ -6,19 +6,9 @@ import (
 	"testing"
 
 	"flong/api"
+	"flong/checks"
 	"flong/metal"
 )
-
-// must returns what a call returned if it has no error.
-func must[T any](t *testing.T, what any) func(v T, e api.Errno) T {
-	return func(v T, e api.Errno) T {
-		t.Helper()
-		if e != api.OK {
-			t.Fatalf("%v: error %d", what, e)
-		}
-		return v
-	}
-}
 
 // someAdditions returns the first additions of a shop, and some of the others.
 func someAdditions(s api.MetalShop) [][]int {
@@ -53,8 +43,8 @@ func checkNotGreater(t *testing.T, what string, now, was api.MetalShop) {
 func TestEachTruth(t *testing.T) {
 	for _, s := range someShops(1000) {
 		for _, add := range someAdditions(s) {
-			safe := must[int](t, s)(metal.Safe(s, add))
-			fails := must[[]int](t, s)(metal.Fails(s, add))
+			safe := checks.Must[int](t, s)(metal.Safe(s, add))
+			fails := checks.Must[[]int](t, s)(metal.Fails(s, add))
 			for _, x := range truths(s.Pot) {
 				if all := keptAll(s, add, 0, x); safe == api.Surely && !all || safe == api.Never && all {
 					t.Fatalf("%v, %v: Safe = %d, in %v %v", s, add, safe, x, all)
@@ -73,7 +63,7 @@ func TestEachTruth(t *testing.T) {
 func TestTheCheapest(t *testing.T) {
 	for _, s := range someShops(1500) {
 		mend, e := metal.Mend(s)
-		if short := must[[]int](t, s)(metal.Short(s)); len(short) > 0 && e != api.ErrNone {
+		if short := checks.Must[[]int](t, s)(metal.Short(s)); len(short) > 0 && e != api.ErrNone {
 			t.Fatalf("%v: Short = %v, Mend = %v, %d", s, short, mend, e)
 		}
 		if e == api.ErrNone {
@@ -112,8 +102,8 @@ func TestClearer(t *testing.T) {
 		clearer := narrower(r, s)
 		checkNotGreater(t, "clearer", clearer, s)
 		for _, add := range someAdditions(s) {
-			was := must[int](t, s)(metal.Safe(s, add))
-			if now := must[int](t, clearer)(metal.Safe(clearer, add)); was != api.Perhaps && now != was {
+			was := checks.Must[int](t, s)(metal.Safe(s, add))
+			if now := checks.Must[int](t, clearer)(metal.Safe(clearer, add)); was != api.Perhaps && now != was {
 				t.Fatalf("%v, %v: Safe = %d; of %v it was %d", clearer, add, now, s, was)
 			}
 		}
@@ -131,8 +121,8 @@ func TestWiderLimits(t *testing.T) {
 		})
 		checkNotGreater(t, "wider", wider, s)
 		for _, add := range someAdditions(s) {
-			was := must[[]int](t, s)(metal.Fails(s, add))
-			for _, limit := range must[[]int](t, wider)(metal.Fails(wider, add)) {
+			was := checks.Must[[]int](t, s)(metal.Fails(s, add))
+			for _, limit := range checks.Must[[]int](t, wider)(metal.Fails(wider, add)) {
 				if !slices.Contains(was, limit) {
 					t.Fatalf("%v, %v: fails %d; of %v Fails was %v", wider, add, limit, s, was)
 				}
@@ -175,10 +165,10 @@ func withLead(p api.MetalPot, s api.MetalShop, lead int) api.MetalShop {
 func TestLeadKeepsSafe(t *testing.T) {
 	for _, s := range someShops(1000) {
 		for _, add := range someAdditions(s)[:1] {
-			p := must[api.MetalPot](t, s)(metal.After(s, add))
+			p := checks.Must[api.MetalPot](t, s)(metal.After(s, add))
 			leads, e := metal.Lead(s, add)
 			for lead := 0; p.Pounds+lead <= min(s.Room, api.MaxMetalPounds); lead++ {
-				safe := must[int](t, s)(metal.Safe(withLead(p, s, lead), nil))
+				safe := checks.Must[int](t, s)(metal.Safe(withLead(p, s, lead), nil))
 				if can := e == api.OK && leads.Low <= lead && lead <= leads.High; can != (safe == api.Surely) {
 					t.Fatalf("%v, %v: Lead = %v, %d; with %d Safe = %d", s, add, leads, e, lead, safe)
 				}
@@ -197,7 +187,7 @@ func TestOneAfterTheOther(t *testing.T) {
 	for _, s := range someShops(2000) {
 		other := somePot(r, 60)
 		for _, add := range someAdditions(s) {
-			added := changed(s, func(x *api.MetalShop) { x.Pot = must[api.MetalPot](t, s)(metal.After(s, add)) })
+			added := changed(s, func(x *api.MetalShop) { x.Pot = checks.Must[api.MetalPot](t, s)(metal.After(s, add)) })
 			mixed := clone(s)
 			p, e := metal.Mix(s, other)
 			if e != api.OK {
@@ -233,7 +223,7 @@ func TestTinAndAntimony(t *testing.T) {
 			}
 		})
 		for _, add := range someAdditions(s) {
-			if one, two := must[int](t, s)(metal.Safe(s, add)), must[int](t, turned)(metal.Safe(turned, add)); one != two {
+			if one, two := checks.Must[int](t, s)(metal.Safe(s, add)), checks.Must[int](t, turned)(metal.Safe(turned, add)); one != two {
 				t.Fatalf("%v, %v: Safe = %d, turned %d", s, add, one, two)
 			}
 		}
