@@ -52,3 +52,19 @@ func Must[T any](t Test, what any) func(v T, e api.Errno) T {
 		return v
 	}
 }
+
+// NotGreater reports whether a number is not greater than an earlier one: if there is none now, there was none.
+func NotGreater(now int, e api.Errno, was int, f api.Errno) bool {
+	return f == api.ErrNone || e == api.OK && f == api.OK && now <= was
+}
+
+// Known returns what is known of something, by whether it is so in some truth, and whether it is not so in some.
+func Known(yes, no bool) int {
+	switch {
+	case !no:
+		return api.Surely
+	case !yes:
+		return api.Never
+	}
+	return api.Perhaps
+}

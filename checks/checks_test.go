@@ -40,3 +40,27 @@ func TestMust(t *testing.T) {
 		t.Errorf("%d ends and %d errors, want 1 and 0", c.ends, c.errors)
 	}
 }
+
+func TestNotGreater(t *testing.T) {
+	for i, x := range []struct {
+		now  int
+		e    api.Errno
+		was  int
+		f    api.Errno
+		want bool
+	}{
+		{2, api.OK, 3, api.OK, true}, {3, api.OK, 3, api.OK, true}, {4, api.OK, 3, api.OK, false},
+		{4, api.OK, 0, api.ErrNone, true}, {0, api.ErrNone, 0, api.ErrNone, true}, {0, api.ErrNone, 3, api.OK, false},
+		{0, api.ErrArg, 3, api.OK, false}, {0, api.OK, 0, api.ErrArg, false},
+	} {
+		if is := checks.NotGreater(x.now, x.e, x.was, x.f); is != x.want {
+			t.Errorf("%d: NotGreater = %v", i, is)
+		}
+	}
+}
+
+func TestKnown(t *testing.T) {
+	if s, n, p := checks.Known(true, false), checks.Known(false, true), checks.Known(true, true); s != api.Surely || n != api.Never || p != api.Perhaps {
+		t.Errorf("Known = %d, %d, %d", s, n, p)
+	}
+}

@@ -4,6 +4,7 @@ import (
 	"slices"
 
 	"flong/api"
+	"flong/checks"
 )
 
 // What the chapter says, word by word: each world and each list of shares is looked at.
@@ -83,13 +84,8 @@ func surelyHold(s api.FlongShop, shares []int) bool {
 }
 
 func wantHolds(s api.FlongShop, shares []int) int {
-	switch wantHolding(s, shares) {
-	case len(wantWorlds(s)):
-		return api.Surely
-	case 0:
-		return api.Never
-	}
-	return api.Perhaps
+	hold := wantHolding(s, shares)
+	return checks.Known(hold > 0, hold < len(wantWorlds(s)))
 }
 
 // wantChance looks for the least Den by which the part can be said.

@@ -20,21 +20,16 @@ func someAdditions(s api.MetalShop) [][]int {
 	return some
 }
 
-// notGreater reports whether a number is not greater than an earlier one: if there is none now, there was none.
-func notGreater(now int, e api.Errno, was int, f api.Errno) bool {
-	return f == api.ErrNone || e == api.OK && f == api.OK && now <= was
-}
-
 func checkNotGreater(t *testing.T, what string, now, was api.MetalShop) {
 	t.Helper()
 	cheap, e := metal.Cheap(now)
 	before, f := metal.Cheap(was)
-	if !notGreater(cheap, e, before, f) {
+	if !checks.NotGreater(cheap, e, before, f) {
 		t.Errorf("%s: %v: Cheap = %d, %d; of %v = %d, %d", what, now, cheap, e, was, before, f)
 	}
 	tin, e := metal.Tin(now)
 	before, f = metal.Tin(was)
-	if !notGreater(tin, e, before, f) {
+	if !checks.NotGreater(tin, e, before, f) {
 		t.Errorf("%s: %v: Tin = %d, %d; of %v = %d, %d", what, now, tin, e, was, before, f)
 	}
 }

@@ -4,6 +4,7 @@ import (
 	"slices"
 
 	"flong/api"
+	"flong/checks"
 )
 
 // What the chapter says, word by word: each truth and each addition is looked at.
@@ -82,13 +83,7 @@ func wantSafe(s api.MetalShop, add []int, lead int) int {
 			no = true
 		}
 	}
-	switch {
-	case !no:
-		return api.Surely
-	case !yes:
-		return api.Never
-	}
-	return api.Perhaps
+	return checks.Known(yes, no)
 }
 
 func wantFails(s api.MetalShop, add []int) []int {
