@@ -415,36 +415,22 @@ func TestMemory(t *testing.T) {
 			if !slices.Equal(l, want) || e != api.OK {
 				t.Errorf("%d: %v, %d, want %v", i, l, e, want)
 			}
-			spoil(l, -7)
+			checks.Spoil(l, -7)
 		}
 		for i, want := range [][]api.AdDay{days(0, 1, 0, 2, 1, 2, 1, 5), days(0, 1, 0, 2, 1, 2)} {
 			l, e := standings[i]()
 			if !slices.Equal(l, want) || e != api.OK {
 				t.Errorf("%d: %v, %d, want %v", i, l, e, want)
 			}
-			spoil(l, api.AdDay{Ad: -7, Day: -7})
+			checks.Spoil(l, api.AdDay{Ad: -7, Day: -7})
 		}
 		if !same(b, bookB()) || !slices.Equal(lines, list(2, 4)) || !slices.Equal(billing, list(-1, 1, 1, 1)) || !slices.Equal(billed, days(1, 5, 0, 9)) {
 			t.Fatalf("an argument was changed: %v, %v, %v, %v", b, lines, billing, billed)
 		}
-		if !clean(b.Lines) || !clean(b.Shown) || !clean(b.Contracts) || !clean(lines) || !clean(billing) || !clean(billed) {
+		if !checks.Clean(b.Lines) || !checks.Clean(b.Shown) || !checks.Clean(b.Contracts) || !checks.Clean(lines) || !checks.Clean(billing) || !checks.Clean(billed) {
 			t.Fatal("what is behind an argument was changed")
 		}
 	}
-}
-
-// spoil writes to all of the memory of a list.
-func spoil[T any](l []T, wrong T) {
-	l = l[:cap(l)]
-	for n := range l {
-		l[n] = wrong
-	}
-}
-
-// clean reports whether the memory behind a list is as it was.
-func clean[T comparable](l []T) bool {
-	var zero T
-	return !slices.ContainsFunc(l[len(l):cap(l)], func(x T) bool { return x != zero })
 }
 
 func same(one, other api.AdBook) bool {

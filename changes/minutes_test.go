@@ -131,17 +131,6 @@ func wantTime(h api.ChangeHouse, minutes [][]held, change int) api.Span {
 	return span(in[0], in[len(in)-1])
 }
 
-// subsets returns all lists of some numbers below this one, ascending.
-func subsets(many int) [][]int {
-	all := lists(nil)
-	for n := range many {
-		for _, l := range all {
-			all = append(all, append(slices.Clone(l), n))
-		}
-	}
-	return all
-}
-
 // altered returns the house with the marks that stand for what is altered; they may be too many for a valid house.
 func altered(h api.ChangeHouse, l []int, change, now int) api.ChangeHouse {
 	return changed(h, func(h *api.ChangeHouse) {
@@ -163,7 +152,7 @@ func costs(h api.ChangeHouse, l []int) int {
 // wantRemedies returns all remedies, the least one first.
 func wantRemedies(h api.ChangeHouse, change, now int) [][]int {
 	var remedies [][]int
-	for _, l := range subsets(len(h.Things)) {
+	for _, l := range checks.Subsets(len(h.Things)) {
 		lacks := false
 		play(altered(h, l, change, now), func(minute int, all []held) {
 			for i, x := range all {

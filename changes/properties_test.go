@@ -173,7 +173,7 @@ func TestTheRemedy(t *testing.T) {
 				if len(l) == 0 {
 					none++
 				}
-				for _, other := range append(subsets(len(h.Things)), l) {
+				for _, other := range append(checks.Subsets(len(h.Things)), l) {
 					// The marks of the change, and those that stand for what is altered, may be too many.
 					as := altered(only(h, change), other, change, now)
 					if changes.Check(as) != api.OK {

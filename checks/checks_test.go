@@ -1,6 +1,8 @@
 package checks_test
 
 import (
+	"reflect"
+	"slices"
 	"testing"
 
 	"flong/api"
@@ -62,5 +64,52 @@ func TestNotGreater(t *testing.T) {
 func TestKnown(t *testing.T) {
 	if s, n, p := checks.Known(true, false), checks.Known(false, true), checks.Known(true, true); s != api.Surely || n != api.Never || p != api.Perhaps {
 		t.Errorf("Known = %d, %d, %d", s, n, p)
+	}
+}
+
+func TestSpoilAndClean(t *testing.T) {
+	all := []int{1, 2, 0, 0}
+	if !checks.Clean(all[:2]) || !checks.Clean(all) || checks.Clean(all[:1]) || !checks.Clean([]int(nil)) {
+		t.Error("Clean is wrong of what is behind a list")
+	}
+	checks.Spoil(all[1:2:3], -7)
+	if !slices.Equal(all, []int{1, -7, -7, 0}) {
+		t.Errorf("Spoil: %v", all)
+	}
+}
+
+func TestSubsets(t *testing.T) {
+	for many, want := range [][][]int{{nil}, {nil, {0}}, {nil, {0}, {1}, {0, 1}}, {nil, {0}, {1}, {0, 1}, {2}, {0, 2}, {1, 2}, {0, 1, 2}}} {
+		if all := checks.Subsets(many); !slices.EqualFunc(all, want, slices.Equal[[]int]) {
+			t.Errorf("Subsets(%d) = %v", many, all)
+		}
+	}
+}
+
+func TestPlates(t *testing.T) {
+	set := checks.Plates(0, 1, 2, 3, 0, 4)
+	if want := []api.MachinePlate{{Bore: 1, Many: 2}, {Page: 3, Many: 4}}; !reflect.DeepEqual(set, want) {
+		t.Errorf("Plates = %v", set)
+	}
+	if n, m := checks.ManyOf(set, 0, 1), checks.ManyOf(set, 1, 0); n != 2 || m != 0 {
+		t.Errorf("ManyOf = %d and %d", n, m)
+	}
+	for i, x := range []struct{ page, bore, many int }{{0, 1, 5}, {0, 1, 0}, {0, 2, 1}, {3, 2, 9}, {1, 1, 0}} {
+		other := checks.Put(set, x.page, x.bore, x.many)
+		for page := range api.MaxMachinePages {
+			for bore := range api.MaxMachineBores {
+				want := checks.ManyOf(set, page, bore)
+				if page == x.page && bore == x.bore {
+					want = x.many
+				}
+				if n := checks.ManyOf(other, page, bore); n != want {
+					t.Errorf("%d: Put = %v: %d of %d %d", i, other, n, page, bore)
+				}
+			}
+		}
+		inOrder := func(one, other api.MachinePlate) int { return (one.Page*3 + one.Bore) - (other.Page*3 + other.Bore) }
+		if !slices.IsSortedFunc(other, inOrder) || slices.ContainsFunc(other, func(p api.MachinePlate) bool { return p.Many == 0 }) {
+			t.Errorf("%d: Put = %v, which is no set", i, other)
+		}
 	}
 }

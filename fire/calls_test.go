@@ -421,29 +421,15 @@ func TestMemory(t *testing.T) {
 			if !slices.Equal(l, want) || e != api.OK {
 				t.Errorf("%d: %v, %d, want %v", i, l, e, want)
 			}
-			spoil(l)
+			checks.Spoil(l, -7)
 		}
 		if !same(x, townT()) || !slices.Equal(safe.Places, list(0, 0, 1, 1, 0)) {
 			t.Fatalf("an argument was changed: %v, %v", x, safe)
 		}
-		if !clean(x.House.Things) || !clean(x.House.Marks) || !clean(x.Places) || !clean(x.Carry) || !clean(x.Rooms) {
+		if !checks.Clean(x.House.Things) || !checks.Clean(x.House.Marks) || !checks.Clean(x.Places) || !checks.Clean(x.Carry) || !checks.Clean(x.Rooms) {
 			t.Fatal("what is behind an argument was changed")
 		}
 	}
-}
-
-// spoil writes to all of the memory of a list.
-func spoil(l []int) {
-	l = l[:cap(l)]
-	for n := range l {
-		l[n] = -7
-	}
-}
-
-// clean reports whether the memory behind a list is as it was.
-func clean[T comparable](l []T) bool {
-	var zero T
-	return !slices.ContainsFunc(l[len(l):cap(l)], func(x T) bool { return x != zero })
 }
 
 // R3

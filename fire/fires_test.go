@@ -4,6 +4,7 @@ import (
 	"slices"
 
 	"flong/api"
+	"flong/checks"
 )
 
 // What the chapter says, word by word: each fire, each set of buildings and each carrying is looked at.
@@ -120,21 +121,10 @@ func wantSafe(t api.FireTown) bool {
 	return true
 }
 
-// subsets returns all lists of some numbers below this one, ascending.
-func subsets(many int) [][]int {
-	all := lists(nil)
-	for n := range many {
-		for _, l := range all {
-			all = append(all, append(slices.Clone(l), n))
-		}
-	}
-	return all
-}
-
 // wantBears returns the greatest number of buildings of which any as many may burn at once.
 func wantBears(t api.FireTown, page int) int {
 	bears := len(t.Rooms)
-	for _, burning := range subsets(len(t.Rooms)) {
+	for _, burning := range checks.Subsets(len(t.Rooms)) {
 		if !slices.Contains(wantPages(t, outside(t, wantAllFresh(t), burning...)), page) {
 			bears = min(bears, len(burning)-1)
 		}

@@ -498,7 +498,7 @@ func TestMemory(t *testing.T) {
 			if !slices.Equal(l, x.want) || e != api.OK {
 				t.Errorf("%d: %v, %d, want %v", i, l, e, x.want)
 			}
-			spoil(l, -7)
+			checks.Spoil(l, -7)
 		}
 		for i, x := range []struct {
 			call func() ([]api.MachinePlate, api.Errno)
@@ -512,34 +512,20 @@ func TestMemory(t *testing.T) {
 			if !slices.Equal(l, x.want) || e != api.OK {
 				t.Errorf("%d: %v, %d, want %v", i, l, e, x.want)
 			}
-			spoil(l, api.MachinePlate{Page: -7, Bore: -7, Many: -7})
+			checks.Spoil(l, api.MachinePlate{Page: -7, Bore: -7, Many: -7})
 		}
 		if !same(h, hallK()) || !slices.Equal(plan[0], list(1)) || !slices.Equal(plan[1], list(0)) || sizeOf(set) != 3 || sizeOf(whole) != 7 {
 			t.Fatalf("an argument was changed: %v, %v, %v, %v", h, plan, set, whole)
 		}
 		for _, l := range slices.Concat(plan, h.Editions, lists(h.Bores, h.House.Trains)) {
-			if !clean(l) {
+			if !checks.Clean(l) {
 				t.Fatalf("what is behind an argument was changed: %v", l)
 			}
 		}
-		if !clean(set) || !clean(whole) || !clean(h.House.Machines) || !clean(h.House.Bundles) {
+		if !checks.Clean(set) || !checks.Clean(whole) || !checks.Clean(h.House.Machines) || !checks.Clean(h.House.Bundles) {
 			t.Fatal("what is behind an argument was changed")
 		}
 	}
-}
-
-// spoil writes to all of the memory of a list.
-func spoil[T any](l []T, wrong T) {
-	l = l[:cap(l)]
-	for n := range l {
-		l[n] = wrong
-	}
-}
-
-// clean reports whether the memory behind a list is as it was.
-func clean[T comparable](l []T) bool {
-	var zero T
-	return !slices.ContainsFunc(l[len(l):cap(l)], func(x T) bool { return x != zero })
 }
 
 // R3

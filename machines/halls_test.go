@@ -5,6 +5,7 @@ import (
 	"slices"
 
 	"flong/api"
+	"flong/checks"
 	"flong/trains"
 )
 
@@ -20,14 +21,7 @@ func bundle(train, hundreds, edition int) api.TrainBundle {
 	return api.TrainBundle{Train: train, Hundreds: hundreds, Edition: edition}
 }
 
-// plates has threes of numbers, in the order of the chapter's examples: page, bore, many.
-func plates(l ...int) []api.MachinePlate {
-	var set []api.MachinePlate
-	for three := range slices.Chunk(l, 3) {
-		set = append(set, api.MachinePlate{Page: three[0], Bore: three[1], Many: three[2]})
-	}
-	return set
-}
+func plates(l ...int) []api.MachinePlate { return checks.Plates(l...) }
 
 // hallK is K of the chapter's examples, and hallL is L.
 func hallK() api.MachineHall {
@@ -199,7 +193,7 @@ func someSet(r *rand.Rand, about []api.MachinePlate) []api.MachinePlate {
 	less, more := 1+r.Intn(6), 1+r.Intn(6)
 	for page := range api.MaxMachinePages {
 		for bore := range api.MaxMachineBores {
-			many := manyOf(about, page, bore)
+			many := checks.ManyOf(about, page, bore)
 			if r.Intn(less) == 0 {
 				many -= r.Intn(2)
 			}
@@ -209,7 +203,7 @@ func someSet(r *rand.Rand, about []api.MachinePlate) []api.MachinePlate {
 			if r.Intn(30) == 0 {
 				many = api.MaxMachineMany
 			}
-			set = put(set, page, bore, many)
+			set = checks.Put(set, page, bore, many)
 		}
 	}
 	return set

@@ -143,11 +143,11 @@ func TestMorePlates(t *testing.T) {
 	for _, h := range mixed(200, 20) {
 		for _, set := range setsOf(t, r, h) {
 			page, bore := r.Intn(api.MaxMachinePages), h.Bores[r.Intn(len(h.Bores))]
-			many := manyOf(set, page, bore)
+			many := checks.ManyOf(set, page, bore)
 			if many == api.MaxMachineMany {
 				continue
 			}
-			larger := put(set, page, bore, many+1)
+			larger := checks.Put(set, page, bore, many+1)
 			was, is := lackedBy(t, h, set), lackedBy(t, h, larger)
 			n, e := machines.Extra(h, set)
 			m, f := machines.Extra(h, larger)
@@ -213,11 +213,11 @@ func TestIdle(t *testing.T) {
 				t.Fatalf("%v: Idle(%v) = %v, %d; Fewest = %d", h, set, idle, e, fewest)
 			}
 			for _, p := range set {
-				n := manyOf(idle, p.Page, p.Bore)
-				if len(lackedBy(t, h, put(set, p.Page, p.Bore, p.Many-n))) > 0 {
+				n := checks.ManyOf(idle, p.Page, p.Bore)
+				if len(lackedBy(t, h, checks.Put(set, p.Page, p.Bore, p.Many-n))) > 0 {
 					t.Fatalf("%v: Idle(%v) = %v; without as many it is not enough", h, set, idle)
 				}
-				if n < p.Many && len(lackedBy(t, h, put(set, p.Page, p.Bore, p.Many-n-1))) == 0 {
+				if n < p.Many && len(lackedBy(t, h, checks.Put(set, p.Page, p.Bore, p.Many-n-1))) == 0 {
 					t.Fatalf("%v: Idle(%v) = %v; without 1 more it is enough", h, set, idle)
 				}
 				some += n
@@ -340,7 +340,7 @@ func TestThePlatesThatMustBeCast(t *testing.T) {
 		s := someShop(r)
 		for page := range s.Wants {
 			for bore := range api.MaxMachineBores {
-				s.Wants[page] += manyOf(set, page, bore)
+				s.Wants[page] += checks.ManyOf(set, page, bore)
 			}
 		}
 		n := checks.Must[int](t, s)(flongs.New(s))
@@ -402,7 +402,7 @@ func TestThePlansAndTheirPlates(t *testing.T) {
 			set := needOf(t, h, checks.Must[[][]int](t, h)(trains.Without(h.House, on)))
 			all = together(all, set)
 			for _, p := range set {
-				most = put(most, p.Page, p.Bore, max(p.Many, manyOf(most, p.Page, p.Bore)))
+				most = checks.Put(most, p.Page, p.Bore, max(p.Many, checks.ManyOf(most, p.Page, p.Bore)))
 			}
 		}
 		n := checks.Must[int](t, h)(machines.Fewest(h))

@@ -4,6 +4,7 @@ import (
 	"slices"
 
 	"flong/api"
+	"flong/checks"
 	"flong/trains"
 )
 
@@ -19,33 +20,6 @@ func wantCases(h api.TrainHouse) []int {
 	return all
 }
 
-// manyOf returns how many plates of a page and a bore a set has.
-func manyOf(set []api.MachinePlate, page, bore int) int {
-	for _, p := range set {
-		if p.Page == page && p.Bore == bore {
-			return p.Many
-		}
-	}
-	return 0
-}
-
-// put returns a set with just so many plates of a page and a bore, and all others as they were.
-func put(set []api.MachinePlate, page, bore, many int) []api.MachinePlate {
-	var other []api.MachinePlate
-	for p := range api.MaxMachinePages {
-		for b := range api.MaxMachineBores {
-			n := manyOf(set, p, b)
-			if p == page && b == bore {
-				n = many
-			}
-			if n > 0 {
-				other = append(other, plates(p, b, n)...)
-			}
-		}
-	}
-	return other
-}
-
 func sizeOf(set []api.MachinePlate) int {
 	size := 0
 	for _, p := range set {
@@ -58,7 +32,7 @@ func sizeOf(set []api.MachinePlate) int {
 func missing(set, from []api.MachinePlate) int {
 	n := 0
 	for _, p := range set {
-		n += max(0, p.Many-manyOf(from, p.Page, p.Bore))
+		n += max(0, p.Many-checks.ManyOf(from, p.Page, p.Bore))
 	}
 	return n
 }
@@ -68,7 +42,7 @@ func together(sets ...[]api.MachinePlate) []api.MachinePlate {
 	var all []api.MachinePlate
 	for _, set := range sets {
 		for _, p := range set {
-			all = put(all, p.Page, p.Bore, manyOf(all, p.Page, p.Bore)+p.Many)
+			all = checks.Put(all, p.Page, p.Bore, checks.ManyOf(all, p.Page, p.Bore)+p.Many)
 		}
 	}
 	return all
@@ -97,7 +71,7 @@ func wantNeed(h api.MachineHall, plan [][]int) []api.MachinePlate {
 func wantFit(h api.MachineHall, on int, set []api.MachinePlate) []int {
 	var fit []int
 	for edition, pages := range h.Editions {
-		if !slices.ContainsFunc(pages, func(page int) bool { return manyOf(set, page, h.Bores[on]) == 0 }) {
+		if !slices.ContainsFunc(pages, func(page int) bool { return checks.ManyOf(set, page, h.Bores[on]) == 0 }) {
 			fit = append(fit, edition)
 		}
 	}
@@ -213,7 +187,7 @@ func wantIdle(all [][][]api.MachinePlate, set []api.MachinePlate) []api.MachineP
 	var idle []api.MachinePlate
 	for _, p := range set {
 		for n := p.Many; n > 0; n-- {
-			if wantEnough(all, put(set, p.Page, p.Bore, p.Many-n)) {
+			if wantEnough(all, checks.Put(set, p.Page, p.Bore, p.Many-n)) {
 				idle = append(idle, plates(p.Page, p.Bore, n)...)
 				break
 			}

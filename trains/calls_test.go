@@ -369,18 +369,18 @@ func TestMemory(t *testing.T) {
 			if !slices.Equal(l, want) || e != api.OK {
 				t.Errorf("%d: %v, %d, want %v", i, l, e, want)
 			}
-			spoil(l)
+			checks.Spoil(l, -7)
 		}
 		for i, want := range [][][]int{lists(list(0), list(1, 2)), lists(list(0, 1, 2), nil)} {
 			p, e := plans[i]()
 			if !equal(p, want) || e != api.OK {
 				t.Errorf("%d: %v, %d, want %v", i, p, e, want)
 			}
-			spoil(p[0])
+			checks.Spoil(p[0], -7)
 			if !slices.Equal(p[1], want[1]) {
 				t.Errorf("two lists share memory: %v", p)
 			}
-			spoil(p[1])
+			checks.Spoil(p[1], -7)
 			clear(p[:cap(p)])
 		}
 		if !same(h, houseH()) || !equal(plan, lists(list(2), list(0))) {
@@ -391,11 +391,5 @@ func TestMemory(t *testing.T) {
 				t.Fatalf("what is behind an argument was changed: %v", behind)
 			}
 		}
-	}
-}
-
-func spoil(l []int) {
-	for i := range l[:cap(l)] {
-		l[:cap(l)][i] = -7
 	}
 }
