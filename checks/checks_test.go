@@ -1,12 +1,15 @@
 package checks_test
 
 import (
+	"math/rand"
 	"reflect"
 	"slices"
 	"testing"
 
 	"flong/api"
 	"flong/checks"
+	"flong/flongs"
+	"flong/trains"
 )
 
 // counter counts what is reported to it.
@@ -111,5 +114,40 @@ func TestPlates(t *testing.T) {
 		if !slices.IsSortedFunc(other, inOrder) || slices.ContainsFunc(other, func(p api.MachinePlate) bool { return p.Many == 0 }) {
 			t.Errorf("%d: Put = %v, which is no set", i, other)
 		}
+	}
+}
+
+func TestTowns(t *testing.T) {
+	change := []func(x *api.OverTown){
+		func(x *api.OverTown) { x.House.Machines[1].Stops++ }, func(x *api.OverTown) { x.House.Bundles[2].Train++ }, func(x *api.OverTown) { x.House.Trains[1]++ }, func(x *api.OverTown) { x.House.Change++ },
+		func(x *api.OverTown) { x.Shop.Moulds[3].Used++ }, func(x *api.OverTown) { x.Shop.Worlds[3][3]++ }, func(x *api.OverTown) { x.Shop.Wants[1]++ }, func(x *api.OverTown) { x.Shop.Fresh++ },
+	}
+	for i, f := range change {
+		x := checks.Town()
+		y := checks.CopyTown(x)
+		if !checks.SameTown(x, y) {
+			t.Fatalf("%v is a copy of %v", y, x)
+		}
+		f(&y)
+		if checks.SameTown(x, y) || !checks.SameTown(x, checks.Town()) {
+			t.Errorf("%d: %v was changed to %v", i, x, y)
+		}
+	}
+}
+
+func TestSomeTowns(t *testing.T) {
+	r := rand.New(rand.NewSource(1))
+	for range 1000 {
+		x := checks.SomeTown(r, 3)
+		if trains.Check(x.House) != api.OK || flongs.Check(x.Shop) != api.OK || len(x.House.Bundles) > 3 {
+			t.Fatalf("%v is not valid", x)
+		}
+	}
+}
+
+func TestSomeLines(t *testing.T) {
+	one, other := checks.SomeLines(rand.New(rand.NewSource(1)), 24), checks.SomeLines(rand.New(rand.NewSource(1)), 24)
+	if len(one) != 24 || !slices.Equal(one, other) {
+		t.Errorf("lines by the same dice are %q and %q", one, other)
 	}
 }

@@ -467,7 +467,7 @@ func TestMemory(t *testing.T) {
 				l[:cap(l)][n] = -7
 			}
 		}
-		if !same(s, shopS()) || !slices.Equal(shares, list(5, 3, 0, 3)) {
+		if !checks.SameShop(s, shopS()) || !slices.Equal(shares, list(5, 3, 0, 3)) {
 			t.Fatalf("an argument was changed: %v, %v", s, shares)
 		}
 	}

@@ -261,7 +261,7 @@ func TestBehindTheTest(t *testing.T) {
 func TestAnyOrder(t *testing.T) {
 	r := rand.New(rand.NewSource(21))
 	for _, s := range someShops(1000, 5) {
-		turned := clone(s)
+		turned := checks.CopyShop(s)
 		places := r.Perm(len(s.Worlds))
 		for world, place := range places {
 			turned.Worlds[place] = s.Worlds[world]

@@ -5,6 +5,7 @@ import (
 	"slices"
 
 	"flong/api"
+	"flong/checks"
 )
 
 func list(l ...int) []int { return l }
@@ -30,22 +31,9 @@ func withS(change func(s *api.FlongShop)) api.FlongShop { return changed(shopS()
 
 // changed returns a copy of a shop with something changed.
 func changed(s api.FlongShop, change func(s *api.FlongShop)) api.FlongShop {
-	s = clone(s)
+	s = checks.CopyShop(s)
 	change(&s)
 	return s
-}
-
-func clone(s api.FlongShop) api.FlongShop {
-	s.Moulds, s.Worlds, s.Wants = slices.Clone(s.Moulds), slices.Clone(s.Worlds), slices.Clone(s.Wants)
-	for world, lasts := range s.Worlds {
-		s.Worlds[world] = slices.Clone(lasts)
-	}
-	return s
-}
-
-func same(one, other api.FlongShop) bool {
-	return slices.Equal(one.Moulds, other.Moulds) && slices.EqualFunc(one.Worlds, other.Worlds, slices.Equal[[]int]) &&
-		slices.Equal(one.Wants, other.Wants) && one.Fresh == other.Fresh
 }
 
 // one is a shop with one page and new moulds of it, that last so many casts in each world.

@@ -75,7 +75,7 @@ func withK(change func(h *api.MachineHall)) api.MachineHall { return changed(hal
 
 // changed returns a copy of a hall with something changed; it shares no memory with this one.
 func changed(h api.MachineHall, change func(h *api.MachineHall)) api.MachineHall {
-	h.House.Machines, h.House.Bundles, h.House.Trains = slices.Clone(h.House.Machines), slices.Clone(h.House.Bundles), slices.Clone(h.House.Trains)
+	h.House = checks.CopyHouse(h.House)
 	h.Bores, h.Editions = slices.Clone(h.Bores), slices.Clone(h.Editions)
 	for edition, pages := range h.Editions {
 		h.Editions[edition] = slices.Clone(pages)
@@ -94,9 +94,7 @@ func calm(h api.MachineHall) api.MachineHall {
 }
 
 func same(one, other api.MachineHall) bool {
-	return slices.Equal(one.House.Machines, other.House.Machines) && slices.Equal(one.House.Bundles, other.House.Bundles) &&
-		slices.Equal(one.House.Trains, other.House.Trains) && one.House.Change == other.House.Change &&
-		slices.Equal(one.Bores, other.Bores) && slices.EqualFunc(one.Editions, other.Editions, slices.Equal[[]int])
+	return checks.SameHouse(one.House, other.House) && slices.Equal(one.Bores, other.Bores) && slices.EqualFunc(one.Editions, other.Editions, slices.Equal[[]int])
 }
 
 // someHalls returns valid halls of all sorts, with so many bundles at the most, the same at each call.

@@ -81,7 +81,7 @@ func withB(change func(b *api.TallyBook)) api.TallyBook { return changed(bookB()
 // changed returns a copy of a book with something changed; it shares no memory with this one.
 func changed(b api.TallyBook, change func(b *api.TallyBook)) api.TallyBook {
 	h := &b.Hall
-	h.House.Machines, h.House.Bundles, h.House.Trains = slices.Clone(h.House.Machines), slices.Clone(h.House.Bundles), slices.Clone(h.House.Trains)
+	h.House = checks.CopyHouse(h.House)
 	h.Bores, h.Editions = slices.Clone(h.Bores), slices.Clone(h.Editions)
 	for edition, pages := range h.Editions {
 		h.Editions[edition] = slices.Clone(pages)

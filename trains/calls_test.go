@@ -383,7 +383,7 @@ func TestMemory(t *testing.T) {
 			checks.Spoil(p[1], -7)
 			clear(p[:cap(p)])
 		}
-		if !same(h, houseH()) || !equal(plan, lists(list(2), list(0))) {
+		if !checks.SameHouse(h, houseH()) || !equal(plan, lists(list(2), list(0))) {
 			t.Fatalf("an argument was changed: %v, %v", h, plan)
 		}
 		for _, l := range append(plan, h.Trains) {

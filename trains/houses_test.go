@@ -5,6 +5,7 @@ import (
 	"slices"
 
 	"flong/api"
+	"flong/checks"
 )
 
 func list(l ...int) []int { return l }
@@ -34,19 +35,9 @@ func withH(change func(h *api.TrainHouse)) api.TrainHouse { return changed(house
 
 // changed returns a copy of a house with something changed.
 func changed(h api.TrainHouse, change func(h *api.TrainHouse)) api.TrainHouse {
-	h = clone(h)
+	h = checks.CopyHouse(h)
 	change(&h)
 	return h
-}
-
-func clone(h api.TrainHouse) api.TrainHouse {
-	h.Machines, h.Bundles, h.Trains = slices.Clone(h.Machines), slices.Clone(h.Bundles), slices.Clone(h.Trains)
-	return h
-}
-
-func same(one, other api.TrainHouse) bool {
-	return slices.Equal(one.Machines, other.Machines) && slices.Equal(one.Bundles, other.Bundles) &&
-		slices.Equal(one.Trains, other.Trains) && one.Change == other.Change
 }
 
 func equal(one, other [][]int) bool { return slices.EqualFunc(one, other, slices.Equal[[]int]) }
