@@ -9,6 +9,7 @@ import (
 	"flong/api"
 	"flong/checks"
 	"flong/flongs"
+	"flong/metal"
 	"flong/trains"
 )
 
@@ -149,5 +150,15 @@ func TestSomeLines(t *testing.T) {
 	one, other := checks.SomeLines(rand.New(rand.NewSource(1)), 24), checks.SomeLines(rand.New(rand.NewSource(1)), 24)
 	if len(one) != 24 || !slices.Equal(one, other) {
 		t.Errorf("lines by the same dice are %q and %q", one, other)
+	}
+}
+
+func TestSomeShops(t *testing.T) {
+	r := rand.New(rand.NewSource(1))
+	for range 1000 {
+		s := api.MetalShop{Pot: checks.SomePot(r, 50), Room: 50, Pigs: []api.MetalPig{checks.SomePig(r)}}
+		if metal.Check(s) != api.OK {
+			t.Fatalf("%v is not valid", s)
+		}
 	}
 }

@@ -180,7 +180,7 @@ func TestOneAfterTheOther(t *testing.T) {
 	r := rand.New(rand.NewSource(19))
 	both := 0
 	for _, s := range someShops(2000) {
-		other := somePot(r, 60)
+		other := checks.SomePot(r, 60)
 		for _, add := range someAdditions(s) {
 			added := changed(s, func(x *api.MetalShop) { x.Pot = checks.Must[api.MetalPot](t, s)(metal.After(s, add)) })
 			mixed := clone(s)

@@ -5,6 +5,7 @@ import (
 	"slices"
 
 	"flong/api"
+	"flong/checks"
 )
 
 func list(l ...int) []int { return l }
@@ -12,11 +13,11 @@ func list(l ...int) []int { return l }
 func span(low, high int) api.Span { return api.Span{Low: low, High: high} }
 
 func pot(pounds, tin, tins, antimony, antimonies int) api.MetalPot {
-	return api.MetalPot{Pounds: pounds, Tin: span(tin, tins), Antimony: span(antimony, antimonies)}
+	return checks.Pot(pounds, tin, tins, antimony, antimonies)
 }
 
 func pig(pounds, tin, antimony, pence, many int) api.MetalPig {
-	return api.MetalPig{Pounds: pounds, Tin: tin, Antimony: antimony, Pence: pence, Many: many}
+	return checks.Pig(pounds, tin, antimony, pence, many)
 }
 
 // shopM is M of the chapter's examples, and shopL is L.
@@ -64,10 +65,10 @@ func someShops(many int) []api.MetalShop {
 
 // someShop has parts near to what some addition comes to, often none.
 func someShop(r *rand.Rand) api.MetalShop {
-	p := somePot(r, []int{0, 6, 30, 100, 380}[r.Intn(5)])
+	p := checks.SomePot(r, []int{0, 6, 30, 100, 380}[r.Intn(5)])
 	s := api.MetalShop{Pot: p, Room: p.Pounds + r.Intn(100)}
 	for range r.Intn(5) {
-		s.Pigs = append(s.Pigs, somePig(r))
+		s.Pigs = append(s.Pigs, checks.SomePig(r))
 	}
 	for _, pig := range s.Pigs {
 		n := r.Intn(pig.Many + 1)
@@ -82,18 +83,6 @@ func someShop(r *rand.Rand) api.MetalShop {
 	return s
 }
 
-func somePot(r *rand.Rand, most int) api.MetalPot {
-	pounds := r.Intn(most + 1)
-	tin, antimony := someBounds(r, pounds/2), someBounds(r, pounds-pounds/2)
-	return api.MetalPot{Pounds: pounds, Tin: tin, Antimony: antimony}
-}
-
-// someBounds is mostly narrow, so that some truths can all be kept.
-func someBounds(r *rand.Rand, most int) api.Span {
-	low := r.Intn(most + 1)
-	return span(low, min(most, low+r.Intn(4)))
-}
-
 // somePart often has just the bounds, or nearly so.
 func somePart(r *rand.Rand, s api.Span, pounds int) api.Span {
 	if r.Intn(8) == 0 || pounds == 0 {
@@ -106,20 +95,4 @@ func somePart(r *rand.Rand, s api.Span, pounds int) api.Span {
 	}
 	low = min(max(low, 0), 1000)
 	return span(low, min(max(high, low), 1000))
-}
-
-// somePig often costs as much as another one.
-func somePig(r *rand.Rand) api.MetalPig {
-	pounds := 1 + r.Intn([]int{4, 12, 40}[r.Intn(3)])
-	tin := r.Intn(pounds + 1)
-	antimony := r.Intn(pounds - tin + 1)
-	switch r.Intn(4) {
-	case 0:
-		antimony = 0
-	case 1:
-		tin = 0
-	case 2:
-		tin, antimony = 0, 0
-	}
-	return pig(pounds, tin, antimony, r.Intn([]int{1, 4, 100}[r.Intn(3)]), r.Intn(5))
 }
